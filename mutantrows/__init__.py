@@ -1,0 +1,1 @@
+"""Mutants of row programs, and which relation sees which."""
