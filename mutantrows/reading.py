@@ -1,4 +1,4 @@
-"""From numbers to programs, relations and bounds, and a program back to numbers."""
+"""From numbers to programs, relations and bounds, and programs, rows and outcomes back to numbers."""
 
 from mutantrows.bounds import Bound, how_many_inputs
 from mutantrows.sides import Relation
@@ -109,3 +109,12 @@ def program_as_numbers(program):
     for step in program:
         numbers.extend(step)
     return numbers
+
+
+def with_count(numbers):
+    """A row, or a list of told ones: how many, they."""
+    return [len(numbers)] + numbers
+
+
+def outcome_as_numbers(outcome):
+    return [0] if outcome is None else [1] + with_count(outcome)

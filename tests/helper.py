@@ -74,6 +74,34 @@ def good():
     return [6]
 
 
+def seen(number):
+    return [7, number]
+
+
+def alone(number):
+    return [8, number]
+
+
+def least():
+    return [9]
+
+
+def unseen():
+    return [10]
+
+
+def show(number):
+    return [11, number]
+
+
+def chain():
+    return [12]
+
+
+def counts():
+    return [13]
+
+
 def ask(*calls):
     """The answers to these calls, one list each."""
     handed = [number for call in calls for number in call]
@@ -89,3 +117,33 @@ def ask(*calls):
 
 def last(*calls):
     return ask(*calls)[-1]
+
+
+def answers_to(setup, calls):
+    """Each call's answer behind the setup, in lines of at most 30 calls."""
+    room = 30 - len(setup)
+    given = []
+    for start in range(0, len(calls), room):
+        given.extend(ask(*setup, *calls[start:start + room])[len(setup):])
+    return given
+
+
+def probe(given, stand, expected, condition="any", at_most=None):
+    """The relation that what the program makes of [given] stands so to [expected], or to [] if that's None.
+
+    It's on at each input, whatever its numbers are, but for the condition, and but for inputs of more than at_most
+    numbers (1 to 7): their count is beyond when it's multiplied.
+    """
+    cut = f"times 99, times 99, times {min(99, 10 ** 6 // (99 * 99 * at_most))}, " if at_most else ""
+    wanted = "take 0" if expected is None else f"count, times 0, add {expected}"
+    return relation(condition, f"count, {cut}times 0, add {given}", stand, wanted)
+
+
+class Frozen(list):
+    """A list that can't be changed, not for a while either."""
+
+    def refuse(self, *args):
+        raise AssertionError("changed")
+
+    __setitem__ = __delitem__ = __iadd__ = __imul__ = append = extend = insert = refuse
+    pop = remove = clear = sort = reverse = refuse

@@ -6,7 +6,10 @@ import sys
 import unittest
 
 from mutantrows.relations import answers
-from tests.helper import ask, bound, clear, good, mutant, mutants, program, relation
+from tests.helper import (
+    Frozen, alone, ask, bound, chain, clear, counts, good, least, mutant, mutants, program, relation, seen, show,
+    unseen,
+)
 
 EXAMPLE = [
     0, 4, 2, 4, 7, 2,
@@ -16,6 +19,15 @@ EXAMPLE = [
     3, 3, 2, 0, 1,
     4,
     6,
+    7, 0,
+    7, 2,
+    7, 5,
+    9,
+    8, 0,
+    10,
+    11, 5,
+    12,
+    13,
     5, 5,
 ]
 
@@ -27,6 +39,15 @@ EXAMPLE_ANSWERS = [
     1, 7,
     13, 6, 0, 0, 1, 0, 2, 0, 0, 1, 1, 1, 1, 1,
     3, 2, 0, 1,
+    3, 0, 1, 0,
+    2, 1, 0,
+    2, 0, 0,
+    3, 1, 1, 0,
+    3, 2, 0, 1,
+    2, 1, 5,
+    10, 1, 6, 1, 1, 0, 1, 1, 0, 1, 0,
+    2, 1, 4,
+    4, 6, 2, 1, 3,
     6, 1, 1, 2, 4, 8, 2,
 ]
 
@@ -39,8 +60,10 @@ class Example(unittest.TestCase):
         self.assertEqual(
             ask(program("sort, take 2"), relation("any", "reverse", "equal", ""),
                 relation("any", "add 1", "equal", "add 1"), relation("any", "", "equal", "reverse"),
-                bound(2, 0, 1), good()),
-            [[2, 6], [0], [1], [2], [7], [2, 0, 1]])
+                bound(2, 0, 1), mutants(), good(), seen(0), seen(2), seen(5), least(), alone(0), unseen(), show(5),
+                chain(), counts(), mutant(5)),
+            [[2, 6], [0], [1], [2], [7], [6, 0, 0, 1, 0, 2, 0, 0, 1, 1, 1, 1, 1], [2, 0, 1], [0, 1, 0], [1, 0], [0, 0],
+             [1, 1, 0], [2, 0, 1], [1, 5], [1, 6, 1, 1, 0, 1, 1, 0, 1, 0], [1, 4], [6, 2, 1, 3], [1, 1, 2, 4, 8, 2]])
 
 
 class HandedInAndBack(unittest.TestCase):
@@ -50,13 +73,6 @@ class HandedInAndBack(unittest.TestCase):
         self.assertEqual(handed, EXAMPLE)
 
     def test_the_list_is_not_changed_for_a_while_either(self):
-        class Frozen(list):
-            def refuse(self, *args):
-                raise AssertionError("changed")
-
-            __setitem__ = __delitem__ = __iadd__ = append = extend = insert = refuse
-            pop = remove = clear = sort = reverse = refuse
-
         self.assertEqual(answers(Frozen(EXAMPLE)), EXAMPLE_ANSWERS)
 
     def test_a_second_time_answers_as_the_first_one(self):
@@ -64,7 +80,9 @@ class HandedInAndBack(unittest.TestCase):
 
     def test_nothing_is_kept_from_one_time_to_the_next(self):
         answers(EXAMPLE)
-        self.assertEqual(ask(mutants(), good(), relation("any", "", "equal", "")), [[0], [0], [0]])
+        self.assertEqual(ask(mutants(), good(), seen(0), alone(0), least(), unseen(), show(0), chain(), counts(),
+                             relation("any", "", "equal", "")),
+                         [[0], [0], [-2], [-3], [1, 0], [0], [-2], [0], [0, 0, 0, 0], [0]])
 
     def test_what_was_given_back_may_be_changed(self):
         first = answers(EXAMPLE)
@@ -72,13 +90,15 @@ class HandedInAndBack(unittest.TestCase):
         self.assertEqual(answers(EXAMPLE), EXAMPLE_ANSWERS)
 
     def test_a_list_of_whole_numbers_is_given_back(self):
-        given = answers(EXAMPLE + [5, 99, 3, 0])
+        given = answers(EXAMPLE + [5, 99, 3, 0, 7, 99, 8, 99, 11, 99])
         self.assertIs(type(given), list)
         self.assertEqual({type(number) for number in given}, {int})
 
     def test_a_refusal_is_one_number(self):
         self.assertEqual(answers([5, 0]), [1, -2])
         self.assertEqual(answers([0, 0]), [1, -1])
+        self.assertEqual(answers([7, 0, 8, 0, 11, 0]), [1, -2, 1, -3, 1, -2])
+        self.assertEqual(answers([3, 3, 8, 0, 1, 6, 7, 0, 8, 0, 9, 10, 11, 0, 12, 13]), [1, 511] + [1, -7] * 8)
 
     def test_thirty_calls(self):
         self.assertEqual(answers([2] * 30), [1, 0] * 30)
