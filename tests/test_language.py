@@ -249,6 +249,7 @@ class Forms(unittest.TestCase):
             for op, other in zip(node.ops, node.comparators):
                 if isinstance(op, (ast.Is, ast.IsNot)):
                     self.assertIsInstance(other, ast.Constant, where(node))
+                    self.assertIn(type(other.value), (bool, type(None)), where(node))
 
     def test_l27_numbers_and_texts(self):
         for node in nodes(ast.BinOp):
